@@ -1,0 +1,1 @@
+"""Everyblock: sound that does not depend on how it is played."""

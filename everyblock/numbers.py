@@ -1,0 +1,40 @@
+"""Samples, gains and names, and what is an integer at all."""
+
+SAMPLE_LEAST = -8388608
+SAMPLE_MOST = 8388607
+GAIN_ONE = 65536
+GAIN_MOST = 262144
+NAME_MOST = 8
+
+
+def is_count(value, least, most):
+    """Tells whether the value is an integer from least to most."""
+    # Python counts True and False among the integers, the document does not.
+    return isinstance(value, int) and not isinstance(value, bool) and least <= value <= most
+
+
+def is_sample(value):
+    """Tells whether the value is a sample."""
+    return is_count(value, SAMPLE_LEAST, SAMPLE_MOST)
+
+
+def is_gain(value):
+    """Tells whether the value is a gain."""
+    return is_count(value, 0, GAIN_MOST)
+
+
+def is_name(value):
+    """Tells whether the value is a string of 1 to 8 letters from a to z."""
+    if not isinstance(value, str) or not 1 <= len(value) <= NAME_MOST:
+        return False
+    return all(["a" <= letter <= "z" for letter in value])
+
+
+def cut(number):
+    """Returns the sample that is nearest to the number."""
+    return max(SAMPLE_LEAST, min(number, SAMPLE_MOST))
+
+
+def through(sample, gain):
+    """Returns the sample through the gain; halves are rounded up."""
+    return cut((sample * gain + GAIN_ONE // 2) // GAIN_ONE)
