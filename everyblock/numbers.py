@@ -1,4 +1,4 @@
-"""Samples, gains and names, and what is an integer at all."""
+"""Samples, gains and names, what is an integer at all, and tuples of such values."""
 
 SAMPLE_LEAST = -8388608
 SAMPLE_MOST = 8388607
@@ -28,6 +28,23 @@ def is_name(value):
     if not isinstance(value, str) or not 1 <= len(value) <= NAME_MOST:
         return False
     return all(["a" <= letter <= "z" for letter in value])
+
+
+def is_tuple(value, least, most):
+    """Tells whether the value is a tuple of least to most items."""
+    return isinstance(value, tuple) and least <= len(value) <= most
+
+
+def are_counts(value, ranges):
+    """Tells whether the value is a tuple of as many integers as there are ranges, each one in its range."""
+    if not is_tuple(value, len(ranges), len(ranges)):
+        return False
+    return all([is_count(number, least, most) for number, (least, most) in zip(value, ranges)])
+
+
+def are_samples(value, least, most):
+    """Tells whether the value is a tuple of least to most samples."""
+    return is_tuple(value, least, most) and all([is_sample(item) for item in value])
 
 
 def cut(number):

@@ -3,7 +3,7 @@
 from math import lcm
 
 from everyblock.errors import BadTempo
-from everyblock.numbers import is_count
+from everyblock.numbers import are_counts
 
 ENTRIES_MOST = 16
 TICK_MOST = 1000000
@@ -25,22 +25,28 @@ def check_tempo(tempo):
 
 def is_entry(entry, tick_least, tick_most):
     """Tells whether this is an entry with a tick from tick_least to tick_most."""
-    if not isinstance(entry, tuple) or len(entry) != 3:
-        return False
-    tick, numerator, denominator = entry
-    if not is_count(tick, tick_least, tick_most):
-        return False
-    return is_count(numerator, 1, NUMERATOR_MOST) and is_count(denominator, 1, DENOMINATOR_MOST)
+    return are_counts(entry, ((tick_least, tick_most), (1, NUMERATOR_MOST), (1, DENOMINATOR_MOST)))
 
 
 def frame_of(tempo, tick):
     """Returns the frame of a tick."""
+    return frames_of(tempo, [tick])[0]
+
+
+def frames_of(tempo, ticks):
+    """Returns the list of the frames of some ticks."""
     parts = parts_of_frame(tempo)
+    rows = stretches(tempo, parts)
+    return [parts_before(rows, tick) // parts for tick in ticks]
+
+
+def parts_before(rows, tick):
+    """Returns how many parts of a frame lie before a tick. The rows are those of stretches."""
     total = 0
-    for begin, before, each in stretches(tempo, parts):
+    for begin, before, each in rows:
         if begin <= tick:
             total = before + (tick - begin) * each
-    return total // parts
+    return total
 
 
 def tick_at(tempo, frame):
