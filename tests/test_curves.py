@@ -1,12 +1,11 @@
 """Points 1.9, 1.10 and 1.11, and the interface of everyblock.curves."""
 
 import copy
-import math
 import random
 import unittest
-from fractions import Fraction
 
 from checks import NO_INTEGERS, deep, refusal, refused, stand_in, with_item
+from told import told_value
 
 from everyblock import curves
 from everyblock.curves import check_points, in_frames, value_at
@@ -15,18 +14,6 @@ from everyblock.errors import BadPoint
 
 def ascending(many):
     return tuple((tick, 65536) for tick in range(many))
-
-
-def told_value(points, frame):
-    """The value as point 1.10 tells it, word by word."""
-    if frame < points[0][0]:
-        return points[0][1]
-    last = max(index for index, (at, _) in enumerate(points) if at <= frame)
-    f, v = points[last]
-    if last == len(points) - 1:
-        return v
-    g, w = points[last + 1]
-    return v + math.floor(Fraction((w - v) * (frame - f), g - f))
 
 
 class TestInterface(unittest.TestCase):

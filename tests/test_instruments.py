@@ -5,6 +5,7 @@ import random
 import unittest
 
 from checks import NO_INTEGERS, deep, refusal, refused, stand_in, with_item
+from told import told_sample
 
 from everyblock import instruments
 from everyblock.errors import BadInstrument
@@ -13,29 +14,6 @@ from everyblock.instruments import (TOP_STEPS, attack_level, check_instrument, p
 
 STEPS = ("steps", 3, 4, (5, -6, 7))
 FLAT = ("steps", 0, 0, (8000,))
-
-
-def told_sample(instrument, event, frame):
-    """The sample as points 2.4 to 2.7 tell it, word by word."""
-    word, attack, release = instrument[:3]
-    start, end, pitch, strength = event
-    if not start <= frame <= end + release - 1:
-        return 0
-    step = TOP_STEPS[pitch % 12] // 2 ** (10 - pitch // 12)
-    phase = (step * (frame - start)) % 65536
-    if word == "saw":
-        at_phase = 256 * (phase - 32768)
-    elif word == "square":
-        at_phase = 8388607 if phase < 32768 else -8388608
-    else:
-        at_phase = instrument[3][phase * len(instrument[3]) // 65536]
-    t = frame - start
-    a = 65536 * min(t + 1, attack + 1) // (attack + 1)
-    k = frame - end
-    r = 65536 if k < 0 else 65536 * max(release - k, 0) // (release + 1)
-    level = a * r // 65536
-    loud = at_phase * strength // 127
-    return max(-8388608, min(8388607, (loud * level + 32768) // 65536))
 
 
 class TestInterface(unittest.TestCase):

@@ -1,12 +1,11 @@
 """Points 1.6, 1.7 and 1.8, and the interface of everyblock.notes."""
 
 import copy
-import math
 import random
 import unittest
-from fractions import Fraction
 
 from checks import NO_INTEGERS, deep, refusal, refused, stand_in, with_item
+from told import told_events
 
 from everyblock import notes as notes_module
 from everyblock.errors import BadClip, BadNote
@@ -19,27 +18,6 @@ NOTE_ENDS = ((0, 100000), (1, 100000), (0, 127), (1, 127))
 CLIP_ENDS = ((0, 100000), (1, 100000), (1, 100))
 NO_NOTES = ((), (5,), (5, 6, 60), (5, 6, 60, 100, 1), [5, 6, 60, 100], None, True, False, 0, 1, "", "abcd",
             (NOTE,), (NOTE, NOTE, NOTE, NOTE), [NOTE])
-
-
-def exact_frame(tempo, tick):
-    """The frame of a tick, summed up exactly."""
-    total = Fraction(0)
-    for index, (begin, numerator, denominator) in enumerate(tempo):
-        end = tempo[index + 1][0] if index + 1 < len(tempo) else tick
-        total += max(0, min(end, tick) - begin) * Fraction(numerator, denominator)
-    return math.floor(total)
-
-
-def told_events(tempo, clips):
-    """The events as point 1.7 tells them, with the order of each one written out."""
-    rows = []
-    for clip, (at, period, times, notes) in enumerate(clips):
-        for turn in range(times):
-            for place, (start, length, pitch, strength) in enumerate(notes):
-                tick = at + turn * period + start
-                event = (exact_frame(tempo, tick), exact_frame(tempo, tick + length), pitch, strength)
-                rows.append((event[0], clip, turn, place, event))
-    return [row[-1] for row in sorted(rows)]
 
 
 class TestInterface(unittest.TestCase):

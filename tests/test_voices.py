@@ -5,22 +5,11 @@ import random
 import unittest
 
 from checks import NO_INTEGERS, deep, refusal, refused, stand_in
+from told import told_spans
 
 from everyblock import voices
 from everyblock.errors import BadVoices
 from everyblock.voices import check_voices, sounding_at, spans_of
-
-
-def told_spans(events, most, release):
-    """The spans as points 2.8 and 2.9 tell them, each one as the list of its frames."""
-    frames = []
-    for event in events:
-        sounding = [index for index, span in enumerate(frames) if event[0] in span]
-        if len(sounding) == most:
-            eldest = min(sounding, key=lambda index: (events[index][0], index))
-            frames[eldest] = [frame for frame in frames[eldest] if frame < event[0]]
-        frames.append(list(range(event[0], event[1] + release)))
-    return [(event[0], event[0] + len(span)) for event, span in zip(events, frames)]
 
 
 def with_pitches(ends):

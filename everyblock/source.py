@@ -1,0 +1,31 @@
+"""The samples of a track: the sum of its voices, worked out anew at each frame from the events alone."""
+
+from everyblock.instruments import voice_sample
+from everyblock.numbers import cut
+from everyblock.voices import spans_of
+
+
+def source_samples(events, instrument, voices, first, count):
+    """Returns the samples of a track with these events at the frames from first on, count of them."""
+    behind = first + count
+    sums = [0] * count
+    for event, (start, end) in zip(events, spans_of(events, voices, instrument[2])):
+        for frame in range(max(start, first), min(end, behind)):
+            sums[frame - first] += voice_sample(instrument, event, frame)
+    return [cut(total) for total in sums]
+
+
+def source_sample(events, instrument, voices, frame):
+    """Returns the sample of a track with these events at one frame."""
+    return source_samples(events, instrument, voices, frame, 1)[0]
+
+
+def track_samples(project, name, first, count):
+    """Returns the samples of the track of a project with this name, as source_samples does."""
+    track = project.track(name)
+    return source_samples(project.events(name), track[1], track[2], first, count)
+
+
+def sample_at(project, name, frame):
+    """Returns the sample of the track of a project with this name at one frame."""
+    return track_samples(project, name, frame, 1)[0]

@@ -1,0 +1,134 @@
+"""What the points of the document tell, word by word, with fractions and without any care for speed."""
+
+import math
+from fractions import Fraction
+
+TOP_STEPS = (11430, 12110, 12830, 13593, 14402, 15258, 16165, 17127, 18145, 19224, 20367, 21578)
+
+
+def told_cut(number):
+    """The sample that is nearest to a number (point 1.1)."""
+    if number > 8388607:
+        return 8388607
+    if number < -8388608:
+        return -8388608
+    return number
+
+
+def told_through(sample, gain):
+    """A sample through a gain (point 1.1)."""
+    return told_cut(math.floor(Fraction(sample * gain + 32768, 65536)))
+
+
+def exact_frame(tempo, tick):
+    """The frame of a tick, summed up exactly."""
+    total = Fraction(0)
+    for index, (begin, numerator, denominator) in enumerate(tempo):
+        end = tempo[index + 1][0] if index + 1 < len(tempo) else tick
+        total += max(0, min(end, tick) - begin) * Fraction(numerator, denominator)
+    return math.floor(total)
+
+
+def told_events(tempo, clips):
+    """The events as point 1.7 tells them, with the order of each one written out."""
+    rows = []
+    for clip, (at, period, times, notes) in enumerate(clips):
+        for turn in range(times):
+            for place, (start, length, pitch, strength) in enumerate(notes):
+                tick = at + turn * period + start
+                event = (exact_frame(tempo, tick), exact_frame(tempo, tick + length), pitch, strength)
+                rows.append((event[0], clip, turn, place, event))
+    return [row[-1] for row in sorted(rows)]
+
+
+def told_value(points, frame):
+    """The value as point 1.10 tells it, word by word."""
+    if frame < points[0][0]:
+        return points[0][1]
+    last = max(index for index, (at, _) in enumerate(points) if at <= frame)
+    f, v = points[last]
+    if last == len(points) - 1:
+        return v
+    g, w = points[last + 1]
+    return v + math.floor(Fraction((w - v) * (frame - f), g - f))
+
+
+def told_sample(instrument, event, frame):
+    """The sample as points 2.4 to 2.7 tell it, word by word."""
+    word, attack, release = instrument[:3]
+    start, end, pitch, strength = event
+    if not start <= frame <= end + release - 1:
+        return 0
+    step = TOP_STEPS[pitch % 12] // 2 ** (10 - pitch // 12)
+    phase = (step * (frame - start)) % 65536
+    if word == "saw":
+        at_phase = 256 * (phase - 32768)
+    elif word == "square":
+        at_phase = 8388607 if phase < 32768 else -8388608
+    else:
+        at_phase = instrument[3][phase * len(instrument[3]) // 65536]
+    t = frame - start
+    a = 65536 * min(t + 1, attack + 1) // (attack + 1)
+    k = frame - end
+    r = 65536 if k < 0 else 65536 * max(release - k, 0) // (release + 1)
+    level = a * r // 65536
+    loud = at_phase * strength // 127
+    return told_through(loud, level)
+
+
+def told_spans(events, most, release):
+    """The spans as points 2.8 and 2.9 tell them, each one as the list of its frames."""
+    frames = []
+    for event in events:
+        sounding = [index for index, span in enumerate(frames) if event[0] in span]
+        if len(sounding) == most:
+            eldest = min(sounding, key=lambda index: (events[index][0], index))
+            frames[eldest] = [frame for frame in frames[eldest] if frame < event[0]]
+        frames.append(list(range(event[0], event[1] + release)))
+    return [(event[0], event[0] + len(span)) for event, span in zip(events, frames)]
+
+
+def told_track(events, instrument, voices, frame):
+    """The sample of a track at a frame (point 2.10)."""
+    spans = told_spans(events, voices, instrument[2])
+    sounding = [event for event, (start, behind) in zip(events, spans) if start <= frame < behind]
+    return told_cut(sum(told_sample(instrument, event, frame) for event in sounding))
+
+
+def told_gain(points, samples, moment):
+    """What a gain with these points in frames gives (point 4.3)."""
+    return [told_through(sample, told_value(points, moment + at if moment + at > 0 else 0))
+            for at, sample in enumerate(samples)]
+
+
+def told_delay(frames, feedback, own, samples):
+    """What a delay gives, and all that went into its line (points 4.4 and 4.7)."""
+    given, went = [], [0] * frames
+    for x in samples:
+        d = went[-frames]
+        given.append(told_cut(x + told_through(d, own)))
+        went.append(told_cut(x + told_through(d, feedback)))
+    return given, went
+
+
+def told_smooth(k, samples):
+    """What a smoothing gives (point 4.5)."""
+    given, y = [], 0
+    for x in samples:
+        if x < y:
+            y -= math.ceil(Fraction(y - x, 2 ** k))
+        else:
+            y += math.ceil(Fraction(x - y, 2 ** k))
+        given.append(y)
+    return given
+
+
+def told_ahead(frames, ceiling, samples):
+    """What an effect that looks ahead gives (point 4.6)."""
+    given = []
+    for f in range(len(samples)):
+        came = [samples[at] for at in range(f - frames, f + 1) if at >= 0]
+        sample = samples[f - frames] if f >= frames else 0
+        p = max(abs(value) for value in came)
+        given.append(sample if p <= ceiling else told_through(sample, ceiling * 65536 // p))
+    return given
