@@ -28,7 +28,10 @@ def check_instrument(instrument):
 
 def phase_step(pitch):
     """Returns by how much the phase of a pitch grows in each frame."""
-    return TOP_STEPS[pitch % 12] >> (10 - pitch // 12)
+    top = TOP_STEPS[pitch % 12]
+    octaves = 10 - pitch // 12
+    # Pitches beyond the range raise no error either: there is nothing to divide by above the top octave.
+    return top >> octaves if octaves > 0 else top << -octaves
 
 
 def wave(instrument, phase):

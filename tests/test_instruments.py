@@ -1,8 +1,10 @@
 """Points 2.1 to 2.7, and the interface of everyblock.instruments."""
 
 import copy
+import math
 import random
 import unittest
+from fractions import Fraction
 
 from checks import NO_INTEGERS, deep, refusal, refused, stand_in, with_item
 from told import told_sample
@@ -102,6 +104,11 @@ class TestPhase(unittest.TestCase):
     def test_some_steps(self):
         self.assertEqual([phase_step(pitch) for pitch in (0, 1, 11, 12, 60, 69, 119, 120, 127)],
                          [11, 11, 21, 22, 357, 600, 10789, 11430, 17127])
+
+    def test_pitches_somewhat_beyond_the_range_raise_no_error(self):
+        for pitch in (-13, -12, -1, 128, 131, 132, 140, 150):
+            self.assertEqual(phase_step(pitch), math.floor(TOP_STEPS[pitch % 12] / Fraction(2) ** (10 - pitch // 12)))
+        self.assertEqual(voice_sample(("saw", 0, 0), (0, 9, 140, 127), 1), 256 * (phase_step(140) % 65536 - 32768))
 
     def test_a_voice_goes_through_its_wave_again_and_again(self):
         row = tuple(range(64))
