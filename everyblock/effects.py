@@ -42,6 +42,13 @@ def latency_of(spec):
     return spec[1] if spec[0] == "ahead" else 0
 
 
+def effect_in_frames(spec, tempo):
+    """Returns an effect, or what else a node is; a gain with a tuple of its points in frames."""
+    if spec[0] == "gain":
+        return ("gain", tuple(in_frames(tempo, spec[1])))
+    return spec
+
+
 def effect_of(spec, tempo):
     """Returns a new object at rest for an effect."""
     word = spec[0]

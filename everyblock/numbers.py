@@ -1,4 +1,4 @@
-"""Samples, gains and names, what is an integer at all, and tuples of such values."""
+"""Samples, gains and names, what is an integer at all, tuples of such values, and sums of samples."""
 
 SAMPLE_LEAST = -8388608
 SAMPLE_MOST = 8388607
@@ -7,10 +7,20 @@ GAIN_MOST = 262144
 NAME_MOST = 8
 
 
+def is_integer(value):
+    """Tells whether the value is an integer."""
+    # Python counts True and False among the integers, the document does not.
+    return isinstance(value, int) and not isinstance(value, bool)
+
+
 def is_count(value, least, most):
     """Tells whether the value is an integer from least to most."""
-    # Python counts True and False among the integers, the document does not.
-    return isinstance(value, int) and not isinstance(value, bool) and least <= value <= most
+    return is_integer(value) and least <= value <= most
+
+
+def is_from_zero(value):
+    """Tells whether the value is an integer from 0 on."""
+    return is_integer(value) and value >= 0
 
 
 def is_sample(value):
@@ -55,3 +65,12 @@ def cut(number):
 def through(sample, gain):
     """Returns the sample through the gain; halves are rounded up."""
     return cut((sample * gain + GAIN_ONE // 2) // GAIN_ONE)
+
+
+def added(rows, count):
+    """Returns the cut sums, frame by frame, of rows of samples, each of that many frames; zeros if there is no row."""
+    sums = [0] * count
+    for row in rows:
+        sums = [total + sample for total, sample in zip(sums, row)]
+    # Cut only once, behind the last row: a sum may leave the samples and come back.
+    return [cut(total) for total in sums]

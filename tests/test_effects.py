@@ -6,7 +6,7 @@ import random
 import unittest
 
 from checks import NO_INTEGERS, deep, refusal, refused, stand_in, with_item
-from told import exact_frame, told_ahead, told_delay, told_gain, told_smooth
+from told import told_delay, told_effect, told_smooth
 
 from everyblock import effects
 from everyblock.effects import check_effect, effect_of, latency_of
@@ -31,19 +31,6 @@ def loud_samples(rng, many):
     kind = rng.choice((9, 2000, 8388608))
     return [rng.choice((0, rng.randint(-kind, kind - 1), -8388608 if kind > 9999 else -9, kind - 1))
             for _ in range(many)]
-
-
-def told(spec, tempo, samples, moment):
-    """What an effect gives from rest on, as part 4 tells it."""
-    if spec[0] == "gain":
-        return told_gain([(exact_frame(tempo, tick), value) for tick, value in spec[1]], samples, moment)
-    if spec[0] == "delay":
-        return told_delay(*spec[1:], samples)[0]
-    if spec[0] == "smooth":
-        return told_smooth(spec[1], samples)
-    if spec[0] == "ahead":
-        return told_ahead(*spec[1:], samples)
-    return list(samples)
 
 
 def told_state(spec, samples):
@@ -303,7 +290,7 @@ class TestBlocks(unittest.TestCase):
             tempo = [(tick, rng.randint(1, 9), rng.randint(1, 9)) for tick in (0, rng.randint(1, 9))]
             samples = loud_samples(rng, 150)
             moment = rng.choice((-40, 0, 3))
-            expected = told(spec, tempo, samples, moment)
+            expected = told_effect(spec, tempo, samples, moment)
             self.assertEqual(effect_of(spec, tempo).process(samples, moment), expected)
             effect = effect_of(spec, tempo)
             at = 0

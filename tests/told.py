@@ -90,9 +90,17 @@ def told_spans(events, most, release):
 
 def told_track(events, instrument, voices, frame):
     """The sample of a track at a frame (point 2.10)."""
+    return told_row(events, instrument, voices, frame, 1)[0]
+
+
+def told_row(events, instrument, voices, first, count):
+    """The samples of a track at these frames (point 2.10)."""
     spans = told_spans(events, voices, instrument[2])
-    sounding = [event for event, (start, behind) in zip(events, spans) if start <= frame < behind]
-    return told_cut(sum(told_sample(instrument, event, frame) for event in sounding))
+    row = []
+    for frame in range(first, first + count):
+        sounding = [event for event, (start, behind) in zip(events, spans) if start <= frame < behind]
+        row.append(told_cut(sum(told_sample(instrument, event, frame) for event in sounding)))
+    return row
 
 
 def told_gain(points, samples, moment):
@@ -132,3 +140,72 @@ def told_ahead(frames, ceiling, samples):
         p = max(abs(value) for value in came)
         given.append(sample if p <= ceiling else told_through(sample, ceiling * 65536 // p))
     return given
+
+
+def told_order(nodes, lines):
+    """The order of a net (point 5.3)."""
+    order = []
+    while True:
+        ready = [name for name, _ in nodes if name not in order
+                 and all(first in order for first, second in lines if second == name)]
+        if not ready:
+            return order
+        order.append(ready[0])
+
+
+def told_latency(nodes, name):
+    """The latency of the node with this name (point 5.4)."""
+    what = dict(nodes)[name]
+    return what[1] if what[0] == "ahead" else 0
+
+
+def told_arrival(nodes, lines, name):
+    """The frame at which the moment 0 reaches a node (point 5.5)."""
+    return max([told_leaving(nodes, lines, first) for first, second in lines if second == name], default=0)
+
+
+def told_leaving(nodes, lines, name):
+    """The frame at which the moment 0 leaves a node (point 5.5)."""
+    return told_arrival(nodes, lines, name) + told_latency(nodes, name)
+
+
+def told_delays(nodes, lines):
+    """The delays of all lines (point 5.5)."""
+    return [told_arrival(nodes, lines, second) - told_leaving(nodes, lines, first) for first, second in lines]
+
+
+def told_sounds(tempo, tracks, nodes, lines, count):
+    """The first samples of each node, as point 5.7 tells them."""
+    sounds = {}
+    for name in told_order(nodes, lines):
+        what = dict(nodes)[name]
+        if what[0] == "track":
+            _, instrument, voices, clips = [track for track in tracks if track[0] == what[1]][0]
+            sounds[name] = told_row(told_events(tempo, clips), instrument, voices, 0, count)
+            continue
+        coming = [0] * count
+        for (first, second), delay in zip(lines, told_delays(nodes, lines)):
+            if second == name:
+                coming = [coming[at] + (sounds[first][at - delay] if at >= delay else 0) for at in range(count)]
+        coming = [told_cut(total) for total in coming]
+        sounds[name] = told_effect(what, tempo, coming, -told_arrival(nodes, lines, name))
+    return sounds
+
+
+def told_effect(what, tempo, samples, moment):
+    """What an effect gives from rest on (part 4); a bus and the output sound as what reaches them."""
+    if what[0] == "gain":
+        return told_gain([(exact_frame(tempo, tick), value) for tick, value in what[1]], samples, moment)
+    if what[0] == "delay":
+        return told_delay(*what[1:], samples)[0]
+    if what[0] == "smooth":
+        return told_smooth(what[1], samples)
+    if what[0] == "ahead":
+        return told_ahead(*what[1:], samples)
+    return list(samples)
+
+
+def told_sound(tempo, tracks, nodes, lines, count):
+    """The first samples of the output (point 5.7)."""
+    output = [name for name, what in nodes if what == ("output",)][0]
+    return told_sounds(tempo, tracks, nodes, lines, count)[output]
