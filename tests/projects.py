@@ -96,3 +96,44 @@ def random_parts(rng):
     rng.shuffle(nodes)
     rng.shuffle(lines)
     return random_tempo(rng), tracks, nodes, lines
+
+
+def random_span(rng, many):
+    first = rng.randint(0, many)
+    return first, rng.randint(first, many)
+
+
+def random_edit(rng, project, deep=3):
+    """An edit of the right form; it may fail, as it may take away what is still named."""
+    word = rng.choice(("notes", "notes", "notes", "clips", "points", "points", "lines", "nodes", "tracks", "tempo",
+                       "what", "voices", "instrument", "all"))
+    track = rng.choice(project.tracks or [TRACK])
+    node = rng.choice(project.nodes)
+    other = random_parts(rng)
+    if word == "notes":
+        index = rng.randrange(len(track[3]) or 1)
+        notes = track[3][index][3] if track[3] else ()
+        return (word, track[0], index) + random_span(rng, len(notes)) + (
+            tuple(random_note(rng) for _ in range(rng.randint(0, 2))),)
+    if word == "clips":
+        return (word, track[0]) + random_span(rng, len(track[3])) + ((random_clip(rng),) * rng.randint(0, 2),)
+    if word == "points":
+        points = node[1][1] if node[1][0] == "gain" else ()
+        return (word, node[0]) + random_span(rng, len(points)) + (random_points(rng)[:rng.randint(0, 2)],)
+    if word in ("lines", "nodes", "tracks"):
+        row = {"lines": project.lines, "nodes": project.nodes, "tracks": project.tracks}[word]
+        new = {"lines": other[3], "nodes": other[2], "tracks": other[1]}[word]
+        return (word,) + random_span(rng, len(row)) + (tuple(rng.sample(row + new, rng.randint(0, min(2, len(row))))),)
+    if word == "tempo":
+        return (word, tuple(random_tempo(rng)))
+    if word == "what":
+        return (word, node[0], rng.choice((random_effect(rng), node[1])))
+    if word == "voices":
+        return (word, track[0], rng.randint(1, 4))
+    if word == "instrument":
+        return (word, track[0], random_instrument(rng))
+    return (word, tuple(random_edit(rng, project, deep - 1) for _ in range(rng.randint(0, 2) if deep else 0)))
+
+
+def random_project(rng):
+    return Project(*random_parts(rng))

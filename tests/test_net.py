@@ -208,6 +208,20 @@ class TestOrder(unittest.TestCase):
         self.assertEqual(order_of(nodes, ring + [("a", "out"), ("b", "out")]), ["a", "d", "e", "f"])
         self.assertEqual(order_of(buses("ab"), [("a", "b"), ("b", "a")]), [])
 
+    def test_lines_with_unknown_names(self):
+        nodes = buses("abc") + [OUT]
+        # A node behind an input that is no node never has all of its inputs in the list.
+        self.assertEqual(order_of(nodes, [("x", "a"), ("a", "b")]), ["c", "out"])
+        self.assertEqual(order_of(nodes, [("a", "x"), ("x", "y"), ("b", "a")]), ["b", "a", "c", "out"])
+
+    def test_a_line_twice(self):
+        nodes = buses("ba") + [OUT]
+        self.assertEqual(order_of(nodes, [("a", "b"), ("a", "b"), ("b", "out")]), ["a", "b", "out"])
+
+    def test_a_name_twice(self):
+        self.assertEqual(order_of(buses("aba"), [("b", "a")]), ["b", "a"])
+        self.assertEqual(order_of(buses("aba"), []), ["a", "b"])
+
     def test_random_nets_also_with_rings(self):
         rng = random.Random(53)
         for _ in range(300):

@@ -209,3 +209,71 @@ def told_sound(tempo, tracks, nodes, lines, count):
     """The first samples of the output (point 5.7)."""
     output = [name for name, what in nodes if what == ("output",)][0]
     return told_sounds(tempo, tracks, nodes, lines, count)[output]
+
+
+def told_change(first, second):
+    """The first frame at which two projects, as their parts, can sound differently (point 6.4)."""
+    def apart_from_points(nodes):
+        return [(name, "gain" if what[0] == "gain" else what) for name, what in nodes]
+
+    def item(row, place):
+        return row[place] if place < len(row) else None
+
+    if [track[:3] for track in first[1]] != [track[:3] for track in second[1]]:
+        return 0
+    if apart_from_points(first[2]) != apart_from_points(second[2]) or first[3] != second[3]:
+        return 0
+    frames = []
+    for one, other in zip(first[1], second[1]):
+        events, others = told_events(first[0], one[3]), told_events(second[0], other[3])
+        for place in range(max(len(events), len(others))):
+            pair = [event for event in (item(events, place), item(others, place)) if event is not None]
+            if len(pair) < 2 or pair[0][0] != pair[1][0] or pair[0][2:] != pair[1][2:]:
+                frames.append(min(event[0] for event in pair))
+                break
+            if pair[0][1] != pair[1][1]:
+                frames.append(min(event[1] for event in pair))
+    for (_, one), (_, other) in zip(first[2], second[2]):
+        if one[0] != "gain":
+            continue
+        points = [(exact_frame(first[0], tick), value) for tick, value in one[1]]
+        others = [(exact_frame(second[0], tick), value) for tick, value in other[1]]
+        for place in range(max(len(points), len(others))):
+            if item(points, place) != item(others, place):
+                frames.append(points[place - 1][0] if place else 0)
+                break
+    return min(frames) if frames else None
+
+
+class ToldPlayer:
+    """The frames and the checkpoints of a player, frame by frame (points 6.7 to 6.9)."""
+
+    def __init__(self, every):
+        self.every = every
+        self.frame = 0
+        self.kept = [0]
+
+    def come_to(self, frame):
+        while self.frame < frame:
+            self.frame += 1
+            if self.frame % self.every == 0 and self.frame not in self.kept:
+                self.kept = sorted(self.kept + [self.frame])
+
+    def play(self, count):
+        self.come_to(self.frame + count)
+
+    def seek(self, frame):
+        on_the_way = [at for at in self.kept if self.frame <= at <= frame and at != self.frame or at == frame]
+        if self.frame > frame or on_the_way:
+            self.frame = max(at for at in self.kept if at <= frame)
+        self.come_to(frame)
+
+    def forget(self):
+        self.kept = [0]
+
+    def change(self, first_frame):
+        frame = self.frame
+        if first_frame is not None:
+            self.kept = [at for at in self.kept if at <= first_frame]
+        self.frame = max(at for at in self.kept if at <= frame)
+        self.come_to(frame)
